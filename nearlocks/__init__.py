@@ -1,0 +1,1 @@
+"""Nearlocks: a lock that stays near, by groups in groups."""
