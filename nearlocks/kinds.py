@@ -12,3 +12,8 @@ def is_whole_from(thing, least):
 
 def is_tuple_of(thing, many):
     return isinstance(thing, tuple) and len(thing) == many
+
+
+def is_known(thing, names):
+    # A list or a dict can't be looked up, so what is no text is never asked for.
+    return isinstance(thing, str) and thing in names

@@ -59,36 +59,41 @@ def name_fits(thing, seen):
 
 def hands_of(plan):
     """All hands' names, as they stand in the plan from the left."""
-    return tuple([name for name, grouped, path in all_in(plan) if not grouped])
+    return tuple([name for name, bound, path in all_in(plan) if bound is None])
 
 
 def groups_of(plan):
     """All groups' names from the left, a group ahead of those in it."""
-    return tuple([name for name, grouped, path in all_in(plan) if grouped])
+    return tuple([name for name, bound, path in all_in(plan) if bound is not None])
+
+
+def bounds_of(plan):
+    """All groups' bounds, as groups_of."""
+    return tuple([bound for name, bound, path in all_in(plan) if bound is not None])
 
 
 def path_of(plan, name):
     """The names of the groups around a hand or group, the nearest first."""
     # Only a text can be a name: other objects may answer == as they like.
     if isinstance(name, str):
-        for known, grouped, path in all_in(plan):
+        for known, bound, path in all_in(plan):
             if known == name:
                 return path
     raise NoName(name)
 
 
 def all_in(plan):
-    """A list of (name, whether it is a group, path) of all hands and groups, from the left."""
+    """A list of (name, bound, path) of all hands and groups, from the left; a hand's bound is None."""
     return all_from(plan, ())
 
 
 def all_from(group, around):
     name, bound, members = group
-    rows = [(name, True, around)]
+    rows = [(name, bound, around)]
     inside = (name, *around)
     for member in members:
         if isinstance(member, str):
-            rows.append((member, False, inside))
+            rows.append((member, None, inside))
         else:
             rows.extend(all_from(member, inside))
     return rows

@@ -1,4 +1,4 @@
-"""Plans and books as texts: words parted by one blank, rows by line feeds."""
+"""Plans, books and houses as texts: words parted by one blank, rows by line feeds."""
 
 
 def show_plan(plan):
@@ -28,3 +28,25 @@ def show_book(book):
 def show_row(row):
     # Only the looks of a take may be None, and a take without looks is its word alone.
     return " ".join([str(part) for part in row if part is not None])
+
+
+def show_hand(name, hand):
+    """A hand's row in a house's text."""
+    row, last, how, looks = hand
+    return f"hand {name} {row} {last} {how} {show_maybe(looks)}"
+
+
+def show_group(name, group):
+    """A group's row in a house's text."""
+    holder, count, places = group
+    return f"group {name} {show_maybe(holder)} {count} {show_places(places)}"
+
+
+def show_maybe(thing):
+    return "-" if thing is None else str(thing)
+
+
+def show_places(places):
+    if len(places) == 0:
+        return "-"
+    return ",".join([member if standing else member + "!" for member, standing in places])

@@ -71,6 +71,49 @@ class LanguageTests(unittest.TestCase):
             if isinstance(node, ast.arg) or not isinstance(node.ctx, ast.Load):
                 self.assertNotIn(word, BUILTINS, name)
 
+    def test_no_name_of_an_import_or_a_class_is_given_another_meaning(self):
+        for name, tree in trees():
+            taken = {one.asname or one.name for node in tree.body if isinstance(node, ast.ImportFrom)
+                     for one in node.names}
+            taken |= {node.name for node in tree.body if isinstance(node, ast.ClassDef)}
+            for node in ast.walk(tree):
+                if isinstance(node, ast.arg):
+                    self.assertNotIn(node.arg, taken, name)
+                elif isinstance(node, ast.Name) and not isinstance(node.ctx, ast.Load):
+                    self.assertNotIn(node.id, taken, name)
+
+    def test_no_two_files_import_from_each_other(self):
+        above = {name[:-3]: {node.module.split(".")[1] for node in tree.body if isinstance(node, ast.ImportFrom)}
+                 for name, tree in trees()}
+        for _ in above:
+            above = {name: known.union(*[above[other] for other in known]) for name, known in above.items()}
+        for name, known in above.items():
+            self.assertNotIn(name, known)
+
+    def test_methods_and_attributes_have_names_of_their_own(self):
+        methods = {node.name for _, known in nodes(ast.ClassDef) for node in known.body
+                   if isinstance(node, ast.FunctionDef)}
+        stored = {node.attr for _, node in nodes(ast.Attribute) if not isinstance(node.ctx, ast.Load)}
+        self.assertEqual(methods & stored, set())
+
+    def test_is_stands_beside_none_and_truths_alone(self):
+        for name, node in nodes(ast.Compare):
+            for sign, other in zip(node.ops, node.comparators):
+                if isinstance(sign, (ast.Is, ast.IsNot)):
+                    self.assertIsInstance(other, ast.Constant, name)
+                    self.assertIn(other.value, (None, True, False), name)
+
+    def test_no_generator_expressions(self):
+        # A class has __eq__: any, all, sorted and the like take lists.
+        self.assertEqual([name for name, node in nodes(ast.GeneratorExp)], [])
+
+    def test_classes_have_the_methods_of_the_interface_in_their_own_bodies(self):
+        listed = {"House": ("__init__", "hand", "group", "within", "twin", "step", "__eq__", "__len__", "__str__")}
+        for _, known in nodes(ast.ClassDef):
+            found = [node.name for node in known.body if isinstance(node, ast.FunctionDef)]
+            for method in listed.get(known.name, ()):
+                self.assertIn(method, found)
+
 
 if __name__ == "__main__":
     unittest.main()
