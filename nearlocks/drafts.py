@@ -5,6 +5,7 @@ class Draft:
     """A house's hands and groups by now, and the events so far.
 
     A step is worked out here, not in the house: where it proves to be idle, the draft is dropped, and nothing changed.
+    The firsts are the members that were found first in the rows that are let go or left, the one that ties among them.
     """
 
     def __init__(self, house):
@@ -14,6 +15,7 @@ class Draft:
         self.hands = dict(house.hands)
         self.groups = dict(house.groups)
         self.told = []
+        self.firsts = []
 
 
 def within_of(hands):

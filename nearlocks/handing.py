@@ -39,7 +39,11 @@ def pass_left(draft, group):
         draft.told.append(("passed", member, group))
         places = places[1:]
     draft.groups[group] = (holder, count, places)
-    return places[0][0] if len(places) > 0 else None
+    if len(places) == 0:
+        return None
+    first = places[0][0]
+    draft.firsts.append(first)
+    return first
 
 
 def hand_on(draft, group, reason, count):

@@ -5,7 +5,7 @@ from nearlocks.errors import NoBook, NoName, NoPlan
 from nearlocks.kinds import is_known
 from nearlocks.plans import all_in, bounds_of, groups_of, hands_of, is_plan
 from nearlocks.programs import is_book
-from nearlocks.showing import show_group, show_hand
+from nearlocks.showing import house_rows
 from nearlocks.stepping import drafted
 
 
@@ -66,6 +66,4 @@ class House:
         return len([name for name in self.hands if self.hands[name][2] != "out"])
 
     def __str__(self):
-        rows = [show_hand(name, self.hands[name]) for name in self.hands]
-        rows += [show_group(name, self.groups[name]) for name in self.groups]
-        return "\n".join(rows)
+        return "\n".join(house_rows(self))

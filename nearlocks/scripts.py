@@ -1,7 +1,6 @@
 """Scripts: who steps next, and why a step idles."""
 
 from nearlocks.errors import NoScript
-from nearlocks.plans import hands_of
 from nearlocks.stepping import drafted
 
 
@@ -23,7 +22,7 @@ def why(house, name):
 
 def stuck(house):
     """None where some hand's step doesn't idle, else (hand, why) of all."""
-    rows = [(name, why(house, name)) for name in hands_of(house.plan)]
+    rows = [(name, why(house, name)) for name in house.hands]
     if any([reason is None for name, reason in rows]):
         return None
     return tuple(rows)

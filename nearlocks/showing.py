@@ -30,6 +30,12 @@ def show_row(row):
     return " ".join([str(part) for part in row if part is not None])
 
 
+def house_rows(house):
+    """The rows of a house's text, or of a draft's."""
+    rows = [show_hand(name, house.hands[name]) for name in house.hands]
+    return rows + [show_group(name, house.groups[name]) for name in house.groups]
+
+
 def show_hand(name, hand):
     """A hand's row in a house's text."""
     row, last, how, looks = hand

@@ -116,5 +116,6 @@ def drafted(house, name):
     if reason is None:
         return draft
     idle = Draft(house)
+    idle.firsts = draft.firsts
     idle.told.append(("idle", name, reason))
     return idle
