@@ -1,37 +1,43 @@
 """Plans: hands in groups, groups in groups, up to the whole."""
 
 from nearlocks.errors import NoName
+from nearlocks.forms import is_letters
 from nearlocks.kinds import is_tuple_of, is_whole_from
 
-LETTERS = "abcdefghijklmnopqrstuvwxyz"
 LONGEST_NAME = 8
 LEAST_BOUND = 1
 
 
 def is_name(thing):
-    if not isinstance(thing, str):
-        return False
-    if not 1 <= len(thing) <= LONGEST_NAME:
-        return False
-    return all([letter in LETTERS for letter in thing])
+    return isinstance(thing, str) and len(thing) <= LONGEST_NAME and is_letters(thing)
 
 
 def is_plan(thing):
     """Whether this is a group in which all names are unlike."""
-    return group_fits(thing, {})
-
-
-def group_fits(thing, seen):
-    """Whether this is a group without the seen names; its names are seen from then on."""
-    if not has_group_form(thing):
+    if isinstance(thing, str):
         return False
-    name, bound, members = thing
-    if not name_fits(name, seen):
-        return False
+    seen = {}
+    waiting = [thing]
     # The first fault ends it: things handed in may share parts so often that a look at all would take too long.
-    for member in members:
+    while waiting:
+        member = waiting.pop()
         if not member_fits(member, seen):
             return False
+        if not isinstance(member, str):
+            waiting.extend(member[2])
+    return True
+
+
+def member_fits(thing, seen):
+    """Whether this is a hand, or like a group but for its members, without the seen names; its name is seen then."""
+    name = thing
+    if not isinstance(thing, str):
+        if not has_group_form(thing):
+            return False
+        name = thing[0]
+    if not is_name(name) or name in seen:
+        return False
+    seen[name] = True
     return True
 
 
@@ -42,19 +48,6 @@ def has_group_form(thing):
     if not is_whole_from(bound, LEAST_BOUND):
         return False
     return isinstance(members, tuple) and len(members) > 0
-
-
-def member_fits(thing, seen):
-    if isinstance(thing, str):
-        return name_fits(thing, seen)
-    return group_fits(thing, seen)
-
-
-def name_fits(thing, seen):
-    if not is_name(thing) or thing in seen:
-        return False
-    seen[thing] = True
-    return True
 
 
 def hands_of(plan):

@@ -1,5 +1,7 @@
 """Plans, books and houses as texts: words parted by one blank, rows by line feeds."""
 
+from nearlocks.tales import all_events
+
 
 def show_plan(plan):
     return "\n".join(group_rows(plan))
@@ -56,3 +58,8 @@ def show_places(places):
     if len(places) == 0:
         return "-"
     return ",".join([member if standing else member + "!" for member, standing in places])
+
+
+def show_events(events):
+    """The events of all steps, in one row."""
+    return " ; ".join([" ".join([str(part) for part in event]) for event in all_events(events)])

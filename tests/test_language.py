@@ -108,7 +108,10 @@ class LanguageTests(unittest.TestCase):
         self.assertEqual([name for name, node in nodes(ast.GeneratorExp)], [])
 
     def test_classes_have_the_methods_of_the_interface_in_their_own_bodies(self):
-        listed = {"House": ("__init__", "hand", "group", "within", "twin", "step", "__eq__", "__len__", "__str__")}
+        listed = {"House": ("__init__", "hand", "group", "within", "twin", "step", "__eq__", "__len__", "__str__"),
+                  "Log": ("__init__", "step", "walk", "back", "house", "events", "entries", "__len__", "__eq__"),
+                  "Desk": ("__init__", "say", "say_all", "log")}
+        self.assertLessEqual(set(listed), {known.name for _, known in nodes(ast.ClassDef)})
         for _, known in nodes(ast.ClassDef):
             found = [node.name for node in known.body if isinstance(node, ast.FunctionDef)]
             for method in listed.get(known.name, ()):

@@ -1,12 +1,11 @@
-"""Random walks: each step against another telling of the document, and what the whole promises of every house."""
+"""Random walks: each step against another telling of the document."""
 
 import unittest
 
 import model
 from nearlocks.houses import House
-from nearlocks.plans import groups_of, hands_of, path_of
-from nearlocks.scripts import stuck, walk, why
-from nearlocks.tales import comings, shows_plain
+from nearlocks.plans import groups_of, hands_of
+from nearlocks.scripts import stuck, why
 
 
 def text_of(other):
@@ -68,87 +67,6 @@ class ModelTests(unittest.TestCase):
                     found[whole is None] += 1
         self.assertGreater(found[True], 20)
         self.assertGreater(found[False], 20)
-
-
-class PromiseTests(unittest.TestCase):
-    """What [3] promises of every house, asked of the house alone."""
-
-    def look(self, house):
-        plan = house.plan
-        hows = [house.hand(name)[2] for name in hands_of(plan)]
-        self.assertLessEqual(hows.count("within"), 1)
-        groups = {name: house.group(name) for name in groups_of(plan)}
-        for name in hands_of(plan) + groups_of(plan)[1:]:
-            holder, count, places = groups[path_of(plan, name)[0]]
-            many = (holder == name) + places.count((name, True))
-            stands = groups[name][0] is not None if name in groups else house.hand(name)[2] != "out"
-            self.assertEqual(many, 1 if stands else 0, (name, str(house)))
-            if name not in groups and house.hand(name)[2] == "loose":
-                self.assertIn((name, True), places)
-        for name in groups:
-            self.look_at_group(house, groups, name)
-
-    def look_at_group(self, house, groups, name):
-        holder, count, places = groups[name]
-        if holder is None:
-            self.assertEqual((count, places), (0, ()))
-        inside = house.within()
-        has_lock = inside is not None and name in path_of(house.plan, inside)
-        if not has_lock:
-            self.assertEqual(count, 0)
-        else:
-            self.assertGreaterEqual(count, 1)
-            self.assertLessEqual(count, model.bounds(house.plan)[name])
-            if path_of(house.plan, name) == ():
-                self.assertEqual(count, 1)
-
-    def test_each_house(self):
-        for plan, book, script in model.cases():
-            house = House(plan, book)
-            self.look(house)
-            for name in script[:200]:
-                house.step(name)
-                self.look(house)
-
-    def test_the_first_that_stands_is_handed_the_lock(self):
-        for plan, book, script in model.cases():
-            house = House(plan, book)
-            for name in script:
-                rows = {group: house.group(group)[2] for group in groups_of(plan)}
-                for event in house.step(name):
-                    if event[0] == "handed":
-                        self.handed(house, rows, *event[1:])
-                    if event[0] == "passed":
-                        self.assertEqual(rows[event[2]][0], (event[1], False))
-                        rows[event[2]] = rows[event[2]][1:]
-
-    def handed(self, house, rows, member, group, reason):
-        self.assertEqual(rows[group][0], (member, True))
-        # One that hands over stands last in the row around it, and may be the first there at once.
-        if reason == "over":
-            around = path_of(house.plan, group)[0]
-            rows[around] += ((group, True),)
-
-    def test_the_tale_is_a_plain_locks(self):
-        many = 0
-        for plan, book, script in model.cases():
-            house = House(plan, book)
-            at = 0
-            while at < len(script):
-                piece = script[at:at + 37]
-                empty = house.within() is None
-                events = walk(house, piece)
-                if empty:
-                    self.assertIs(shows_plain(events), True)
-                    many += len(comings(events))
-                at += 37
-        self.assertGreater(many, 1000)
-
-    def test_the_same_script_is_told_the_same(self):
-        for plan, book, script in model.cases():
-            one, other = House(plan, book), House(plan, book)
-            self.assertEqual(walk(one, script), walk(other, script))
-            self.assertEqual(one, other)
 
 
 if __name__ == "__main__":

@@ -150,7 +150,7 @@ class OrderTests(unittest.TestCase):
         self.assertGreater(unlike, 20)
 
     def rows_kept(self, house, told):
-        """Each group's holder and the standing ones of its row come in this order, by the first of theirs that comes."""
+        """Each group's holder and those that stand in its row come in this order, by the first of theirs that comes."""
         for name in groups_of(house.plan) if told else ():
             holder, count, places = house.group(name)
             row = [member for member, standing in places if standing]
